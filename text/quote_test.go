@@ -96,6 +96,17 @@ func TestUnquoteInvertsQuote(t *testing.T) {
 	checkQuote(t, strings.Repeat("\\", 1<<18))
 }
 
+// wantOneOf checks that s is unquoted if it is one of the quotes, and refused otherwise.
+func wantOneOf(t *testing.T, quotes map[string]string, s string) {
+	t.Helper()
+	want, isQuote := quotes[s]
+	if isQuote {
+		wantUnquoted(t, s, want, api.OK)
+	} else {
+		wantUnquoted(t, s, "", api.ErrForm)
+	}
+}
+
 // Every short string over these bytes is either one of the Quotes that can be written with them, or refused.
 func TestUnquoteAcceptsOnlyQuotes(t *testing.T) {
 	quotes := map[string]string{}
@@ -103,12 +114,7 @@ func TestUnquoteAcceptsOnlyQuotes(t *testing.T) {
 		quotes[text.Quote(s)] = s
 	})
 	eachString(pieces("\"\\nx0aF \n\xa0"), 6, func(s string) {
-		want, isQuote := quotes[s]
-		if isQuote {
-			wantUnquoted(t, s, want, api.OK)
-		} else {
-			wantUnquoted(t, s, "", api.ErrForm)
-		}
+		wantOneOf(t, quotes, s)
 	})
 }
 
@@ -121,12 +127,7 @@ func TestUnquoteOfEveryFormOfTwoDigits(t *testing.T) {
 	for i := range 256 {
 		for j := range 256 {
 			s := "\"\\x" + string([]byte{byte(i), byte(j)}) + "\""
-			want, isQuote := quotes[s]
-			if isQuote {
-				wantUnquoted(t, s, want, api.OK)
-			} else {
-				wantUnquoted(t, s, "", api.ErrForm)
-			}
+			wantOneOf(t, quotes, s)
 		}
 	}
 }
