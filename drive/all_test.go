@@ -8,6 +8,7 @@ import (
 
 	"lorry/api"
 	"lorry/drive"
+	"lorry/internal/sample"
 )
 
 // answers are the results of all functions. Texts of schedules are their values; nil and empty lists are the same.
@@ -22,7 +23,7 @@ func answersOf(x api.Instance, r api.Route, given []bool, s api.Sheet) answers {
 	run, e0 := drive.Run(x, r, given)
 	best, e1 := drive.Best(x, r)
 	since, e2 := drive.Since(x, r, s)
-	a.Run, a.Best, a.Since = show(run), show(best), slices.Concat(since)
+	a.Run, a.Best, a.Since = sample.Show(run), sample.Show(best), slices.Concat(since)
 	a.Errors = [4]api.Errno{e0, e1, e2, drive.Valid(x, r, s)}
 	return a
 }
@@ -32,7 +33,7 @@ func modelOf(x api.Instance, r api.Route, given []bool, s api.Sheet) answers {
 	run, _, e0 := runOf(x, r, given)
 	best, e1 := bestOf(x, r)
 	since, e2 := checkOf(x, r, s)
-	a.Run, a.Best, a.Since = show(run), show(best), slices.Concat(since)
+	a.Run, a.Best, a.Since = sample.Show(run), sample.Show(best), slices.Concat(since)
 	a.Errors = [4]api.Errno{e0, e1, e2, e2}
 	return a
 }
@@ -42,7 +43,7 @@ func wantModel(t *testing.T, x api.Instance, r api.Route, given []bool, s api.Sh
 	t.Helper()
 	got, want := answersOf(x, r, given, s), modelOf(x, r, given, s)
 	if !reflect.DeepEqual(got, want) {
-		t.Errorf("%s, given %s, %s: %+v; want %+v", about(x, r), showRests(given), show(s), got, want)
+		t.Errorf("%s, given %s, %s: %+v; want %+v", sample.About(x, r), sample.ShowRests(given), sample.Show(s), got, want)
 	}
 	return got
 }
@@ -57,7 +58,7 @@ func drawnSheet(r *rand.Rand, x api.Instance, one api.Route, given []bool) api.S
 		s.Times = make([]api.Time, len(one.Visits))
 	}
 	if r.Intn(3) == 0 {
-		s = oneOf(r, append(withAnotherNumber(s), withAnotherRest(s)...)...)
+		s = sample.OneOf(r, append(withAnotherNumber(s), withAnotherRest(s)...)...)
 	}
 	return s
 }
@@ -67,16 +68,16 @@ func TestDrawnInstances(t *testing.T) {
 	r := rand.New(rand.NewSource(1801))
 	errors, more := map[api.Errno][4]int{}, map[int]int{}
 	for range 20000 {
-		size := oneOf(r, 4, 10, 30, 300)
-		x := drawn(r, size, 1+r.Intn(4))
-		one := drawnRoute(r, x, r.Intn(8), size)
-		given := drawnRests(r, len(one.Visits)+1+oneOf(r, 0, 0, 0, 0, 0, 0, 0, 0, 0, 1))
-		one.Rests = drawnRests(r, oneOf(r, 0, 0, r.Intn(len(one.Visits)+2)))
+		size := sample.OneOf(r, 4, 10, 30, 300)
+		x := sample.Draw(r, size, 1+r.Intn(4))
+		one := sample.DrawRoute(r, x, r.Intn(8), size)
+		given := sample.DrawRests(r, len(one.Visits)+1+sample.OneOf(r, 0, 0, 0, 0, 0, 0, 0, 0, 0, 1))
+		one.Rests = sample.DrawRests(r, sample.OneOf(r, 0, 0, r.Intn(len(one.Visits)+2)))
 		switch r.Intn(12) {
 		case 0:
-			one = damage(r, x, one)
+			one = sample.Damage(r, x, one)
 		case 1, 2, 3, 4, 5, 6:
-			tire(r, &x, one)
+			sample.Tire(r, &x, one)
 		}
 		got := wantModel(t, x, one, given, drawnSheet(r, x, one, given))
 		wantPromises(t, r, x, one, given)
@@ -101,7 +102,7 @@ func TestDrawnInstances(t *testing.T) {
 	}
 	r = rand.New(rand.NewSource(1802))
 	for range 500 {
-		wantValid(t, drawn(r, oneOf(r, 4, 10, 30, 300), 1+r.Intn(10)))
+		wantValid(t, sample.Draw(r, sample.OneOf(r, 4, 10, 30, 300), 1+r.Intn(10)))
 	}
 }
 
@@ -130,7 +131,7 @@ func wantPromises(t *testing.T, r *rand.Rand, x api.Instance, one api.Route, giv
 	if s, err := drive.Run(x, one, given); err == api.OK {
 		wantTimes(t, x, one, s)
 		later := one
-		later.Start = min(one.Start+oneOf(r, 0, 1, 2, 5, r.Intn(100)), api.MaxTime)
+		later.Start = min(one.Start+sample.OneOf(r, 0, 1, 2, 5, r.Intn(100)), api.MaxTime)
 		if l, err := drive.Run(x, later, given); err == api.OK {
 			wantLater(t, x, one, s, l)
 		}
@@ -146,7 +147,7 @@ func wantPromises(t *testing.T, r *rand.Rand, x api.Instance, one api.Route, giv
 	for _, given := range following(one) {
 		s, e := drive.Run(x, one, given)
 		if e == api.OK && (err != api.OK || s.End < best.End) {
-			t.Errorf("%s: Best = %s, %d, but Run = %s", about(x, one), show(best), err, show(s))
+			t.Errorf("%s: Best = %s, %d, but Run = %s", sample.About(x, one), sample.Show(best), err, sample.Show(s))
 		}
 	}
 }
@@ -165,12 +166,12 @@ func wantTimes(t *testing.T, x api.Instance, r api.Route, s api.Sheet) {
 			rest = x.Types[r.Type].Rest
 		}
 		if one.Arrive < last || one.Begin < one.Arrive || one.Begin < stop.Open || one.Begin > stop.Close || one.Depart != one.Begin+stop.Service+rest {
-			t.Errorf("%s: wrong times in %s", about(x, r), show(s))
+			t.Errorf("%s: wrong times in %s", sample.About(x, r), sample.Show(s))
 		}
 		last = one.Depart
 	}
 	if s.End < last {
-		t.Errorf("%s: wrong end in %s", about(x, r), show(s))
+		t.Errorf("%s: wrong end in %s", sample.About(x, r), sample.Show(s))
 	}
 }
 
@@ -179,11 +180,11 @@ func wantLater(t *testing.T, x api.Instance, r api.Route, early, late api.Sheet)
 	t.Helper()
 	for i, one := range early.Times {
 		if late.Times[i].Arrive < one.Arrive {
-			t.Errorf("%s: %s, but then %s", about(x, r), show(early), show(late))
+			t.Errorf("%s: %s, but then %s", sample.About(x, r), sample.Show(early), sample.Show(late))
 		}
 	}
 	if late.End < early.End {
-		t.Errorf("%s: %s, but then %s", about(x, r), show(early), show(late))
+		t.Errorf("%s: %s, but then %s", sample.About(x, r), sample.Show(early), sample.Show(late))
 	}
 }
 
@@ -192,11 +193,11 @@ func TestLaterStarts(t *testing.T) {
 	r := rand.New(rand.NewSource(1803))
 	schedules := 0
 	for range 150 {
-		x := drawn(r, 9, 3)
+		x := sample.Draw(r, 9, 3)
 		x.Types[0].Drive = api.MaxTime
-		one := drawnRoute(r, x, 1+r.Intn(5), 9)
+		one := sample.DrawRoute(r, x, 1+r.Intn(5), 9)
 		one.Type = 0
-		given := drawnRests(r, len(one.Visits)+1)
+		given := sample.DrawRests(r, len(one.Visits)+1)
 		var last api.Sheet
 		for one.Start = range 100 {
 			s, err := drive.Run(x, one, given)
@@ -221,25 +222,25 @@ func TestLongRoutes(t *testing.T) {
 	r := rand.New(rand.NewSource(1804))
 	most := map[bool]int{}
 	for range 20000 {
-		size := oneOf(r, 4, 10, 30, 100)
-		x := drawn(r, size, 1+r.Intn(10))
-		one := drawnRoute(r, x, 8+r.Intn(13), size)
-		one.Rests = drawnRests(r, oneOf(r, 0, 0, r.Intn(4)))
+		size := sample.OneOf(r, 4, 10, 30, 100)
+		x := sample.Draw(r, size, 1+r.Intn(10))
+		one := sample.DrawRoute(r, x, 8+r.Intn(13), size)
+		one.Rests = sample.DrawRests(r, sample.OneOf(r, 0, 0, r.Intn(4)))
 		for i := range x.Orders {
 			x.Orders[i].Pick.Close, x.Orders[i].Drop.Close = widened(x.Orders[i].Pick), widened(x.Orders[i].Drop)
 		}
 		for i := range x.Types {
 			x.Types[i].Close = api.MaxTime
 		}
-		tire(r, &x, one)
+		sample.Tire(r, &x, one)
 		got, err := drive.Best(x, one)
 		given, found := bestByStates(x, one)
 		if !found {
 			given = append(slices.Clone(one.Rests), make([]bool, len(one.Visits)+1-len(one.Rests))...)
 		}
 		want, _, e := runOf(x, one, given)
-		if err != e || show(got) != show(want) || found != (err == api.OK) {
-			t.Errorf("%s: Best = %s, %d; want %s, %d", about(x, one), show(got), err, show(want), e)
+		if err != e || sample.Show(got) != sample.Show(want) || found != (err == api.OK) {
+			t.Errorf("%s: Best = %s, %d; want %s, %d", sample.About(x, one), sample.Show(got), err, sample.Show(want), e)
 		}
 		if err == api.OK {
 			most[countOf(got) >= 5]++

@@ -9,96 +9,43 @@ import (
 
 	"lorry/api"
 	"lorry/drive"
+	"lorry/internal/sample"
 )
 
-// arguments are those of all functions. Their lists are shorter than the memory behind them, which is that of Whole.
+// arguments are those of all functions. Their lists are shorter than the memory behind them.
 type arguments struct {
-	X     api.Instance
-	R     api.Route
-	Given []bool
-	S     api.Sheet
-	Whole struct {
-		Rests, Given []bool
-		Visits       []api.Visit
-		Times        []api.Time
-		Arcs         []api.Arc
-		Points       [][]api.Point
-	}
-}
-
-// longer returns a list that is followed by another element in its memory, and this memory.
-func longer[T any](l []T, behind T) ([]T, []T) {
-	whole := append(slices.Clone(l), behind)
-	return whole[:len(l)], whole
+	X      api.Instance
+	R      api.Route
+	Given  []bool
+	S      api.Sheet
+	Memory sample.Memory
+	Rests  []bool
+	Times  []api.Time
 }
 
 // drawnArguments returns the same arguments each time for one seed; every other one can be wrong.
 func drawnArguments(seed int64) arguments {
 	r := rand.New(rand.NewSource(seed))
-	size := oneOf(r, 4, 10, 30)
-	a := arguments{X: drawn(r, size, 1+r.Intn(4))}
-	a.R = drawnRoute(r, a.X, r.Intn(7), size)
+	size := sample.OneOf(r, 4, 10, 30)
+	a := arguments{X: sample.Draw(r, size, 1+r.Intn(4))}
+	a.R = sample.DrawRoute(r, a.X, r.Intn(7), size)
 	if r.Intn(2) == 0 {
-		tire(r, &a.X, a.R)
+		sample.Tire(r, &a.X, a.R)
 	}
-	a.R.Rests = drawnRests(r, r.Intn(len(a.R.Visits)+2))
-	a.Given = drawnRests(r, len(a.R.Visits)+1)
+	a.R.Rests = sample.DrawRests(r, r.Intn(len(a.R.Visits)+2))
+	a.Given = sample.DrawRests(r, len(a.R.Visits)+1)
 	a.S = drawnSheet(r, a.X, a.R, a.Given)
 	if seed%2 == 1 {
-		a.R = damage(r, a.X, a.R)
-		makeWrong(r, &a)
+		a.R = sample.Damage(r, a.X, a.R)
+		sample.Spoil(r, &a.X, &a.R)
+		for _, n := range []*int{&a.S.Depart, &a.S.End, &a.S.Miles} {
+			*n = sample.OneOf(r, append(sample.Ints(), slices.Repeat([]int{*n}, 150)...)...)
+		}
 	}
-	a.R.Rests, a.Whole.Rests = longer(a.R.Rests, true)
-	a.R.Visits, a.Whole.Visits = longer(a.R.Visits, api.Visit{Order: 71})
-	a.Given, a.Whole.Given = longer(a.Given, true)
-	a.S.Times, a.Whole.Times = longer(a.S.Times, api.Time{Arrive: 72})
-	a.X.Net.Arcs, a.Whole.Arcs = longer(a.X.Net.Arcs, api.Arc{From: 73})
-	for i := range a.X.Net.Arcs {
-		one := &a.X.Net.Arcs[i]
-		travel, whole := longer(one.Travel, api.Point{T: 74})
-		slow, all := longer(one.Slow, api.Point{T: 75})
-		one.Travel, one.Slow = travel, slow
-		a.Whole.Points = append(a.Whole.Points, whole, all)
-	}
+	a.Memory = sample.Lengthen(&a.X, &a.R)
+	a.Given, a.Rests = sample.Longer(a.Given, true)
+	a.S.Times, a.Times = sample.Longer(a.S.Times, api.Time{Arrive: 72})
 	return a
-}
-
-// makeWrong replaces numbers by ones that a valid instance, a route or a schedule does not have.
-func makeWrong(r *rand.Rand, a *arguments) {
-	wrong := func(n *int) {
-		if r.Intn(6) == 0 {
-			*n = oneOf(r, anyInts()...)
-		}
-	}
-	for i := range a.X.Types {
-		one := &a.X.Types[i]
-		for _, n := range []*int{&one.From, &one.To, &one.Profile, &one.Open, &one.Close, &one.Drive, &one.Rest} {
-			wrong(n)
-		}
-	}
-	for i := range a.X.Orders {
-		for _, one := range []*api.Stop{&a.X.Orders[i].Pick, &a.X.Orders[i].Drop} {
-			for _, n := range []*int{&one.Place, &one.Open, &one.Close, &one.Service} {
-				wrong(n)
-			}
-		}
-	}
-	for i := range a.X.Net.Arcs {
-		one := &a.X.Net.Arcs[i]
-		for _, n := range []*int{&one.From, &one.To, &one.Profile, &one.Miles} {
-			wrong(n)
-		}
-		for _, l := range [][]api.Point{one.Travel, one.Slow} {
-			for k := range l {
-				wrong(&l[k].T)
-				wrong(&l[k].A)
-			}
-		}
-		one.Travel = one.Travel[r.Intn(2)*r.Intn(len(one.Travel)):]
-	}
-	for _, n := range []*int{&a.R.Type, &a.R.Start, &a.S.Depart, &a.S.End, &a.S.Miles} {
-		wrong(n)
-	}
 }
 
 // resultsOf returns the results of all functions as they are.
@@ -119,11 +66,11 @@ func TestArgumentsAreNotModified(t *testing.T) {
 		}
 		for i, s := range sheets {
 			if errors[i] != api.OK && !isZero(s) {
-				t.Errorf("%s: %s with the error %d", about(a.X, a.R), show(s), errors[i])
+				t.Errorf("%s: %s with the error %d", sample.About(a.X, a.R), sample.Show(s), errors[i])
 			}
 		}
 		if errors[2] != errors[3] || errors[2] != api.OK && len(since) > 0 {
-			t.Errorf("%s: %v with the errors %v", about(a.X, a.R), since, errors)
+			t.Errorf("%s: %v with the errors %v", sample.About(a.X, a.R), since, errors)
 		}
 	}
 }
@@ -135,13 +82,9 @@ func TestResultsAreNew(t *testing.T) {
 			clear(s.Times[:cap(s.Times)])
 		}
 		clear(since[:cap(since)])
-		clear(a.Whole.Rests)
-		clear(a.Whole.Given)
-		clear(a.Whole.Visits)
-		clear(a.Whole.Times)
-		for _, l := range a.Whole.Points {
-			clear(l)
-		}
+		a.Memory.Clear()
+		clear(a.Rests)
+		clear(a.Times)
 	}
 	for seed := range int64(3000) {
 		a := drawnArguments(2 * seed)
@@ -151,11 +94,11 @@ func TestResultsAreNew(t *testing.T) {
 			sheets, since, _ := resultsOf(a)
 			overwrite(arguments{}, sheets, since)
 			if got := answersOf(a.X, a.R, a.Given, a.S); !reflect.DeepEqual(got, kept) {
-				t.Fatalf("%s: %v, then %v", about(a.X, a.R), kept, got)
+				t.Fatalf("%s: %v, then %v", sample.About(a.X, a.R), kept, got)
 			}
 		}
 		overwrite(a, nil, nil)
-		got := answers{Run: show(keptSheets[0]), Best: show(keptSheets[1]), Since: slices.Concat(keptSince), Errors: errors}
+		got := answers{Run: sample.Show(keptSheets[0]), Best: sample.Show(keptSheets[1]), Since: slices.Concat(keptSince), Errors: errors}
 		if !reflect.DeepEqual(got, kept) {
 			t.Fatalf("the results became %v; they were %v", got, kept)
 		}
@@ -188,11 +131,13 @@ func TestEmptyLists(t *testing.T) {
 
 // R1: any numbers at any place.
 func TestAllCallsEnd(t *testing.T) {
-	for _, a := range anyInts() {
-		for _, b := range anyInts() {
-			x := town("0>1 10, 1>0 10", "0>0 0-100 15/4", "- 1@0-40+2")
+	for _, a := range sample.Ints() {
+		for _, b := range sample.Ints() {
+			x := sample.Town("0>1 10, 1>0 10", "0>0 0-100 15/4", "- 1@0-40+2")
 			s := api.Sheet{Depart: a, Times: []api.Time{{Arrive: b, Begin: a, Depart: b}}, End: a, Miles: b}
-			call := func() { resultsOf(arguments{X: x, R: api.Route{Visits: visits("A")}, Given: rests("-*"), S: s}) }
+			call := func() {
+				resultsOf(arguments{X: x, R: api.Route{Visits: sample.Visits("A")}, Given: sample.Rests("-*"), S: s})
+			}
 			x.Types[0].Open, x.Types[0].Close = a, b
 			call()
 			x.Types[0].Drive, x.Types[0].Rest = a, b
@@ -213,7 +158,7 @@ func TestAllCallsEnd(t *testing.T) {
 
 // R1: a network in which each list of rests leads to other times, which no valid one can be.
 func TestManyStatesEnd(t *testing.T) {
-	x := town("0>1 1, 1>0 1", "0>0 0-1 1/0", "1@0-1+0 0@0-1+0")
+	x := sample.Town("0>1 1, 1>0 1", "0>0 0-1 1/0", "1@0-1+0 0@0-1+0")
 	for k := range 60 {
 		for i := range x.Net.Arcs {
 			x.Net.Arcs[i].Slow = append(x.Net.Arcs[i].Slow, api.Point{T: 1 << k, A: 1 << k})
@@ -225,7 +170,7 @@ func TestManyStatesEnd(t *testing.T) {
 	for _, most := range []int{1, 100, 10000, 1 << 20, math.MaxInt} {
 		for _, rest := range []int{1, 5, 1000, 1 << 20} {
 			x.Types[0].Close, x.Types[0].Drive, x.Types[0].Rest = math.MaxInt, most, rest
-			for _, r := range []api.Route{route(0, 0, "aAaAaAaAaAaA"), route(0, 5, "aAaAaAaAaAaAa")} {
+			for _, r := range []api.Route{sample.Route(0, 0, "aAaAaAaAaAaA"), sample.Route(0, 5, "aAaAaAaAaAaAa")} {
 				drive.Best(x, r)
 			}
 		}
@@ -236,7 +181,7 @@ func TestManyStatesEnd(t *testing.T) {
 func TestLongListsEnd(t *testing.T) {
 	const long = 300000
 	x := line("0>1 0-200 100/5", "- 1@0-99+4")
-	r := api.Route{Visits: slices.Repeat(visits("A"), long), Rests: make([]bool, long)}
+	r := api.Route{Visits: slices.Repeat(sample.Visits("A"), long), Rests: make([]bool, long)}
 	s := api.Sheet{Times: make([]api.Time, long)}
 	a := arguments{X: x, R: r, Given: make([]bool, long+1), S: s}
 	resultsOf(a)
@@ -245,9 +190,9 @@ func TestLongListsEnd(t *testing.T) {
 	a.R.Rests = nil
 	resultsOf(a)
 	a.X.Orders, a.X.Types = slices.Repeat(x.Orders, long), slices.Repeat(x.Types, long)
-	a.X.Net.Arcs = slices.Concat(slices.Repeat([]api.Arc{arc("3>4 1")}, long), x.Net.Arcs)
+	a.X.Net.Arcs = slices.Concat(slices.Repeat([]api.Arc{sample.Arc("3>4 1")}, long), x.Net.Arcs)
 	a.R.Type, a.R.Visits[7].Order = long-1, long-1
 	if got, err := drive.Best(a.X, a.R); err != api.OK || got.Miles != 3 {
-		t.Error(show(got), err)
+		t.Error(sample.Show(got), err)
 	}
 }

@@ -4,6 +4,7 @@ import (
 	"slices"
 
 	"lorry/api"
+	"lorry/internal/sample"
 )
 
 // These are models of the functions, sentence by sentence: Best tries all lists of rests.
@@ -188,7 +189,7 @@ func checkOf(x api.Instance, r api.Route, s api.Sheet) ([]int, api.Errno) {
 	if err != api.OK {
 		return nil, err
 	}
-	if show(want) != show(s) {
+	if sample.Show(want) != sample.Show(s) {
 		return nil, api.ErrState
 	}
 	return driven, api.OK
