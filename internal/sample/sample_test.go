@@ -57,6 +57,7 @@ func TestDraw(t *testing.T) {
 		x := sample.Draw(r, size, 1+r.Intn(10))
 		one := sample.DrawRoute(r, x, r.Intn(21), size)
 		sample.Tire(r, &x, one)
+		sample.Rate(r, &x)
 		m := sample.Lengthen(&x, &one)
 		if faults := instance.Check(x); len(faults) > 0 || len(m.Visits) != len(one.Visits)+1 {
 			t.Fatalf("%s: %v", sample.About(x, one), faults)
